@@ -836,22 +836,23 @@ func holdApart(t *testing.T, s impl.Sys) {
 		wipe(s.Progs[p:p+1], impl.Ins{Op: -9})
 		rest(p+1, 0, 0, 0, 0)
 	}
-	n := len(s.Progs)
+	// What is not right may have more of one thing than of another.
+	progs, states, ways := len(s.Progs), len(s.States), len(s.Ways)
 	for p := range s.States {
 		overwrite(s.States[p].Regs)
-		rest(n, p+1, 0, 0, 0)
+		rest(progs, p+1, 0, 0, 0)
 	}
 	for p := range s.States {
 		overwrite(s.States[p].Out)
-		rest(n, n, p+1, 0, 0)
+		rest(progs, states, p+1, 0, 0)
 	}
 	for i := range s.Ways {
 		wipe(s.Ways[i:i+1], impl.Item{V: -99})
-		rest(n, n, n, i+1, 0)
+		rest(progs, states, states, i+1, 0)
 	}
 	for p := range s.Hist {
 		wipe(s.Hist[p:p+1], impl.Event{Kind: -99})
-		rest(n, n, n, n*n, p+1)
+		rest(progs, states, states, ways, p+1)
 	}
 	wipe([][][]impl.Ins{s.Progs}, nil)
 	wipe([][]impl.State{s.States}, impl.State{Code: -99})
