@@ -818,6 +818,17 @@ func closeSys(s impl.Sys) impl.Sys {
 	return impl.Sys{Progs: oneArray(s.Progs), States: states, Ways: oneArray(s.Ways), Hist: oneArray(s.Hist)}
 }
 
+// layings hands s out with room behind each of its lists, and with its lists close behind each other; each with a function that tells whether all is as it was.
+func layings(s impl.Sys) []func() (impl.Sys, func() bool) {
+	return []func() (impl.Sys, func() bool){
+		func() (impl.Sys, func() bool) { return roomySys(s) },
+		func() (impl.Sys, func() bool) {
+			given := closeSys(s)
+			return given, func() bool { return sameSys(given, s) }
+		},
+	}
+}
+
 // holdApart writes into each list of s, and the room behind it, one behind the other: those that come later must be as they were.
 func holdApart(t *testing.T, s impl.Sys) {
 	t.Helper()
@@ -878,13 +889,7 @@ func stepSystems(t *testing.T) []impl.Sys {
 func TestStepsWriteIntoNothingAndShareNothing(t *testing.T) {
 	codes := [7]int{}
 	for _, from := range stepSystems(t) {
-		for _, given := range []func() (impl.Sys, func() bool){
-			func() (impl.Sys, func() bool) { return roomySys(from) },
-			func() (impl.Sys, func() bool) {
-				s := closeSys(from)
-				return s, func() bool { return sameSys(s, from) }
-			},
-		} {
+		for _, given := range layings(from) {
 			s, same := given()
 			for p := -1; p <= min(len(s.Progs), 4); p++ {
 				for peer := -1; peer <= min(len(s.Progs), 4); peer++ {

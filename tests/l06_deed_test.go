@@ -688,13 +688,7 @@ func TestDeedsWriteIntoNothingAndShareNothing(t *testing.T) {
 	r := rand.New(rand.NewSource(23))
 	odd := impl.Pick{P: -81, Peer: -82}
 	for _, from := range stepSystems(t) {
-		for i, given := range []func() (impl.Sys, func() bool){
-			func() (impl.Sys, func() bool) { return roomySys(from) },
-			func() (impl.Sys, func() bool) {
-				s := closeSys(from)
-				return s, func() bool { return sameSys(s, from) }
-			},
-		} {
+		for i, given := range layings(from) {
 			s, same := given()
 			for _, count := range []int{0, 1, 30, 200, 201} {
 				picks := append(somePicks(r, max(len(s.Progs), 1), count), odd, odd)
