@@ -217,8 +217,8 @@ func TestNoClocksOfWhatIsNotRight(t *testing.T) {
 	}
 }
 
-// A system that is wrong in one place alone tells nothing of the others either.
-func TestNoClocksWhereOneThingIsWrong(t *testing.T) {
+// wrongInOne are systems that are wrong in one place alone.
+func wrongInOne(t *testing.T) []impl.Sys {
 	right := talk(t)
 	wrong := []impl.Sys{
 		but(right, func(s *impl.Sys) { s.States[2].At++ }),
@@ -231,6 +231,13 @@ func TestNoClocksWhereOneThingIsWrong(t *testing.T) {
 		if !wantSysOk(right) || wantSysOk(s) {
 			t.Fatalf("%+v", s)
 		}
+	}
+	return wrong
+}
+
+// Nothing is told of what is right in them either.
+func TestNoClocksWhereOneThingIsWrong(t *testing.T) {
+	for _, s := range wrongInOne(t) {
 		for _, x := range all(s) {
 			if got, list := impl.Sender(s, x.p, x.i), impl.Clock(s, x.p, x.i); got != -1 || len(list) != 0 {
 				t.Errorf("Sender and Clock of %v are %d and %v in %+v", x, got, list, s)
