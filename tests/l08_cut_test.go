@@ -784,17 +784,23 @@ func TestWaysAtACutMetAndPassed(t *testing.T) {
 	}
 }
 
-// What is right is asked only how much is on its ways now: on the way to oneself more may have been earlier.
+// toOneself is n of which p sent to itself fourteen times and then took eight times. What is right is asked only how much is on its ways now: on the way to oneself more may have been earlier.
+func toOneself(t *testing.T, n, p int) impl.Sys {
+	t.Helper()
+	progs := slices.Repeat([][]impl.Ins{program(t, "end")}, n)
+	progs[p] = slices.Concat(slices.Repeat([]impl.Ins{{Op: impl.OpSend, N: p}}, 14), slices.Repeat([]impl.Ins{{Op: impl.OpTake, N: p}}, 8), program(t, "end"))
+	s := wantNew(progs...)
+	s.Hist[p] = slices.Concat(slices.Repeat([]impl.Event{{Kind: impl.EvSend, Peer: p}}, 14), slices.Repeat([]impl.Event{{Kind: impl.EvTake, Peer: p}}, 8))
+	s.States[p].At = 22
+	s.Ways[n*p+p] = make([]impl.Item, 6)
+	holdSys(t, "now it is right", s, true)
+	return s
+}
+
 func TestTheWayToOneselfAtACut(t *testing.T) {
 	for n := 1; n <= 4; n++ {
 		for p := range n {
-			progs := slices.Repeat([][]impl.Ins{program(t, "end")}, n)
-			progs[p] = slices.Concat(slices.Repeat([]impl.Ins{{Op: impl.OpSend, N: p}}, 14), slices.Repeat([]impl.Ins{{Op: impl.OpTake, N: p}}, 8), program(t, "end"))
-			s := wantNew(progs...)
-			s.Hist[p] = slices.Concat(slices.Repeat([]impl.Event{{Kind: impl.EvSend, Peer: p}}, 14), slices.Repeat([]impl.Event{{Kind: impl.EvTake, Peer: p}}, 8))
-			s.States[p].At = 22
-			s.Ways[n*p+p] = make([]impl.Item, 6)
-			holdSys(t, "now it is right", s, true)
+			s := toOneself(t, n, p)
 			for k := range 23 {
 				cut := make([]int, n)
 				cut[p] = k
